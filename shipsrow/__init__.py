@@ -1,0 +1,1 @@
+"""Ships in a row of any length: what shots by a plan surely hit."""
