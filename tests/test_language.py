@@ -7,11 +7,11 @@ import unittest
 TOP = os.path.dirname(os.path.dirname(os.path.abspath(__file__)))
 PACKAGE = os.path.join(TOP, "shipsrow")
 
-NODES_NOT_USED = (ast.Set, ast.GeneratorExp, ast.AsyncFunctionDef, ast.Global, ast.Div, ast.Import, ast.Try,
-                  ast.Yield, ast.YieldFrom, ast.Lambda, ast.NamedExpr)
+NODES_NOT_ALLOWED = (ast.AsyncFunctionDef, ast.AsyncFor, ast.AsyncWith, ast.Await, ast.Div, ast.Import)
 
-BUILTINS = ("len range enumerate zip min max sum abs sorted reversed int str bool list tuple dict isinstance "
-            "ord repr any all divmod ValueError property super").split()
+BUILTINS = ("len range enumerate zip min max sum abs sorted reversed int str bool list tuple dict set isinstance "
+            "ord repr any all divmod map iter property super "
+            "ValueError KeyError IndexError LookupError ZeroDivisionError").split()
 
 
 def files():
@@ -55,10 +55,16 @@ class LanguageTest(unittest.TestCase):
                     own = node.module.startswith("shipsrow.")
                     self.assertTrue(own or names <= allowed.get(node.module, set()), (path, node.module))
 
-    def test_what_is_not_used(self):
+    def test_no_generator_expression_where_a_class_compares(self):
+        """Rule L7: any, all, min, max, sum and sorted take a list then."""
         for path in files():
             for node in ast.walk(ast.parse(text_of(path))):
-                self.assertNotIsInstance(node, NODES_NOT_USED, (path, getattr(node, "lineno", None)))
+                self.assertNotIsInstance(node, ast.GeneratorExp, (path, getattr(node, "lineno", None)))
+
+    def test_what_is_not_allowed(self):
+        for path in files():
+            for node in ast.walk(ast.parse(text_of(path))):
+                self.assertNotIsInstance(node, NODES_NOT_ALLOWED, (path, getattr(node, "lineno", None)))
                 self.assertFalse(isinstance(node, ast.Constant) and isinstance(node.value, (float, bytes)), path)
 
     def test_builtins_only_as_allowed(self):
