@@ -1,1 +1,1 @@
-"""Ships in a row of any length: what shots by a plan surely hit."""
+"""Ships in a row of any length: what plans surely hit, what answers leave, and a game."""
