@@ -258,6 +258,25 @@ class MoreTest(unittest.TestCase):
         self.assertEqual(more(Plan((("every", 5, 4),)), Plan(far)), 95)
         self.assertEqual(more(Plan(far), Plan((("every", 5, 4),))), 1)
 
+    def test_single_cells_against_others(self):
+        """The one gets ahead only where the single cells of the other are all there."""
+        ends = (("back", 5), ("cell", 1))
+        self.assert_more((("every", 4, 3),), ends)
+        self.assertEqual(more(Plan((("every", 4, 3),)), Plan(ends)), 12)
+        for parts in some_plans(11, 60):
+            for single in (ends, (("cell", 5),), (("back", 0), ("cell", 3), ("back", 4)),
+                           (("cell", 0), ("cell", 1), ("back", 2), ("back", 3))):
+                self.assert_more(parts, single, 150)
+
+    def test_several_more_at_each_step(self):
+        one, other = (("every", 3, 0), ("every", 3, 1)), tuple(("cell", i) for i in range(4))
+        self.assert_more(one, other)
+        self.assertEqual(more(Plan(one), Plan(other)), 7)
+        one = (("every_back", 4, 3), ("every_back", 4, 1))
+        other = (("cell", 0), ("every_back", 3, 0), ("back", 1))
+        self.assert_more(one, other)
+        self.assertEqual(more(Plan(one), Plan(other)), 16)
+
     def test_never(self):
         for parts in some_plans(6, 20):
             self.assertIsNone(more(Plan(parts), Plan(parts)))
